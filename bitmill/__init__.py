@@ -1,0 +1,1 @@
+"""Bitmill: programs in words of sixteen bits."""
