@@ -78,10 +78,14 @@ def going_words(near_form, when, goal, far, place):
     """The words of a jump or call, whose far form is the one behind its near form; None as in words_of."""
     if far:
         return (fields(near_form + 1, when), goal)
-    ahead = goal - place - 1
-    if not -16 <= ahead <= 15:
+    if not is_reached(place, goal):
         return None
-    return (fields(near_form, when) | (ahead & 31),)
+    return (fields(near_form, when) | ((goal - place - 1) & 31),)
+
+
+def is_reached(place, goal):
+    """Whether a near jump or call at a place reaches a goal."""
+    return -16 <= goal - place - 1 <= 15
 
 
 def only_word(deed):
@@ -131,6 +135,28 @@ def deed_at(words, place):
     if words[place:place + len(meant)] != meant:
         return None
     return deed, len(meant)
+
+
+def deeds_met(words):
+    """Of all deeds from the first word on, one behind the other: place, deed, how many words it has.
+
+    Where there is no deed, it is None, of one word.
+    """
+    met = []
+    place = 0
+    while place < len(words):
+        found = deed_at(words, place)
+        deed, many = (None, 1) if found is None else found
+        met.append((place, deed, many))
+        place += many
+    return met
+
+
+def goal_of(deed):
+    """The goal of a jump or call; None of another deed, and where there is none."""
+    if deed is None or deed[0] not in ("jump", "call"):
+        return None
+    return deed[-2]
 
 
 def guessed(words, place):

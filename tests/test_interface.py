@@ -4,7 +4,7 @@ import pathlib
 import unittest
 
 import bitmill
-from bitmill import deeds, errors, mill
+from bitmill import deeds, errors, joining, lists, mill, seals, shown
 
 FOLDER = pathlib.Path(bitmill.__file__).parent
 
@@ -27,12 +27,16 @@ class Interface(unittest.TestCase):
             self.assertIn(name, names)
             self.assertTrue(issubclass(getattr(errors, name), errors.MillError))
 
-    def test_deeds(self):
-        names = defined(FOLDER / "deeds.py")
-        self.assertIn("packed", names)
-        self.assertIn("unpacked", names)
-        self.takes(deeds.packed, "(deed, place=0)")
-        self.takes(deeds.unpacked, "(image, place=0)")
+    def test_functions(self):
+        for file, name, wanted in [
+            (deeds, "packed", "(deed, place=0)"), (deeds, "unpacked", "(image, place=0)"),
+            (joining, "assembled", "(text)"), (joining, "places", "(text)"),
+            (shown, "shown", "(image)"), (shown, "listing", "(image, wide=0)"),
+            (lists, "deeds_of", "(image)"), (lists, "lean", "(deeds)"), (lists, "image_of", "(deeds)"),
+            (seals, "sealed", "(image)"), (seals, "mended", "(block)"),
+        ]:
+            self.assertIn(name, defined(pathlib.Path(file.__file__)))
+            self.takes(getattr(file, name), wanted)
 
     def test_mill(self):
         methods = defined(FOLDER / "mill.py")["Mill"]
