@@ -97,7 +97,7 @@ def check_label(row):
 def parameters_of(text):
     """The parameters that a .macro row tells behind its name, in their order; None if they may not be."""
     parameters = {}
-    for part in parts_of(text.strip()):
+    for part in parts_of(text):
         name, sign, behind = part.partition("=")
         name = name.strip()
         if not is_name(name) or name in parameters:

@@ -53,6 +53,9 @@ class Exchanged(unittest.TestCase):
         self.same(".macro m a=5\n.word {a}\n.end\nm", ".word 5")
         self.same(".macro m a=5, b\n.word {a}, {b}\n.end\nm b=1", ".word 5, 1")
 
+    def test_blanks_about_the_sign_of_a_text(self):
+        self.same(".macro m a = 1 , b =  2\nx{a}y{b}: rest\n.end\nm\nm b =  5 ,  a  = 7  ", "x1y2: rest\nx7y5: rest")
+
     def test_empty_texts(self):
         self.same(".macro m a=, b=5\nload r1, r2{a}\n.word {b}1\n.end\nm\nm b=\nm , b=2",
                   "load r1, r2\n.word 51\nload r1, r2\n.word 1\nload r1, r2\n.word 21")

@@ -94,7 +94,8 @@ class Mended(unittest.TestCase):
 
     def test_others(self):
         # The columns tell of one bit, but the marks of a word that the block doesn't have, or of several.
-        for block in [(1, 0, 2), (1, 0, 0x8000), (0, 0, 3), (3, 0, 0), (1, 1, 0), (0, 0, 0xffff), (5, 0, 1)]:
+        for block in [(1, 0, 3), (1, 0, 0x2001), (1, 0, 0x8001), (1, 0, 0, 5), (0, 0, 3), (3, 0, 0), (1, 1, 0),
+                      (0, 0, 0xffff), (5, 0, 1)]:
             with self.assertRaises(NoMend):
                 mended(block)
 
