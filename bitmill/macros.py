@@ -28,10 +28,11 @@ class Exchange:
     def tell(self, row, later):
         """Keeps the macro that a row begins, later being the texts behind it; tells how many of them it takes."""
         name, _, behind = row.rest.partition(" ")
+        name = name.lower()
         parameters = parameters_of(behind)
-        if row.label is not None or not self.is_free(name) or parameters is None or ".end" not in later:
+        many = rows_ahead_of_end(later)
+        if row.label is not None or not self.is_free(name) or parameters is None or many is None:
             raise BadRow(row.number, "macro")
-        many = later.index(".end")
         self.macros[name] = Macro(parameters, later[:many])
         return many + 1
 
@@ -94,12 +95,18 @@ def check_label(row):
         raise BadRow(row.number, "form")
 
 
+def rows_ahead_of_end(texts):
+    """How many texts of rows stand ahead of the first .end; None if there is none."""
+    ends = [at for at, text in enumerate(texts) if text.lower() == ".end"]
+    return ends[0] if len(ends) > 0 else None
+
+
 def parameters_of(text):
     """The parameters that a .macro row tells behind its name, in their order; None if they may not be."""
     parameters = {}
     for part in parts_of(text):
         name, sign, behind = part.partition("=")
-        name = name.strip()
+        name = name.strip().lower()
         if not is_name(name) or name in parameters:
             return None
         parameters[name] = behind.strip() if sign == "=" else None
@@ -109,7 +116,7 @@ def parameters_of(text):
 def told_texts(macro, row):
     """The text of each parameter of a macro, in the order of the parameters, that a row calls."""
     parts = {}
-    for place, part in enumerate(row.parts):
+    for place, part in enumerate(row.texts):
         name, text = name_and_text(macro, place, part)
         if name not in macro.parameters or name in parts:
             raise BadRow(row.number, "macro")
@@ -126,7 +133,7 @@ def name_and_text(macro, place, part):
     """For which parameter a part at a place is, and its text; a part too many is for one without a name."""
     name, sign, text = part.partition("=")
     if sign == "=":
-        return name.strip(), text.strip()
+        return name.strip().lower(), text.strip()
     names = list(macro.parameters)
     return (names[place] if place < len(names) else ""), part
 
@@ -134,5 +141,15 @@ def name_and_text(macro, place, part):
 def exchanged(text, told, mark):
     """The text of a macro's row with the texts of its parameters, and the mark of its call, in it."""
     for name, part in told.items():
-        text = text.replace("{" + name + "}", part)
+        text = exchanged_one(text, "{" + name + "}", part)
     return text.replace("@", mark)
+
+
+def exchanged_one(text, braced, part):
+    """A text with a part in the place of each parameter that is braced so, whether its letters are great or small."""
+    pieces = []
+    begin = 0
+    for piece in text.lower().split(braced):
+        pieces.append(text[begin:begin + len(piece)])
+        begin += len(piece) + len(braced)
+    return part.join(pieces)

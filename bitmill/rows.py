@@ -2,7 +2,7 @@
 
 LETTERS = "abcdefghijklmnopqrstuvwxyz"
 FIGURES = "0123456789"
-WORD_SIGNS = "abcdefghijklmnopqrstuvwxyz0123456789."
+WORD_SIGNS = "abcdefghijklmnopqrstuvwxyzABCDEFGHIJKLMNOPQRSTUVWXYZ0123456789."
 REGISTERS = ("r0", "r1", "r2", "r3", "r4", "r5", "r6", "r7")
 NAME_MOST = 8
 
@@ -13,24 +13,26 @@ class Row:
     def __init__(self, number, text):
         ahead, colon, behind = text.partition(":")
         self.number = number
-        self.label = None if colon == "" else ahead.strip()
-        self.word, self.rest = word_and_rest(text if colon == "" else behind)
-        self.parts = parts_of(self.rest)
+        self.label = None if colon == "" else lowered(ahead.strip())
+        word, self.rest = word_and_rest(text if colon == "" else behind)
+        self.word = lowered(word)
+        # What a macro hands on keeps its letters: only where it comes to stand is seen which are a sign's number.
+        self.texts = parts_of(self.rest)
+        self.parts = [lowered(part) for part in self.texts]
 
 
 def rows_of(text):
-    """The rows of a text, each as a text without what doesn't matter at its ends and by its letters."""
+    """The rows of a text, each as a text without what doesn't matter at its ends, but with its letters as they are."""
     rows = text.split("\n")
     # Behind the last line end there is a row only if something stands there.
     if rows[-1] == "":
         del rows[-1]
-    return [cleaned(row) for row in rows]
+    return [row.partition(";")[0].strip() for row in rows]
 
 
-def cleaned(row):
-    """A row without what tells nothing; its great letters as small ones, but for those that are numbers of signs."""
-    told = row.partition(";")[0]
-    return "".join([sign if told[at - 1:at] == "'" else sign.lower() for at, sign in enumerate(told)]).strip()
+def lowered(text):
+    """A text with its great letters as small ones, but for those that are numbers of signs."""
+    return "".join([sign if text[at - 1:at] == "'" else sign.lower() for at, sign in enumerate(text)])
 
 
 def word_and_rest(text):

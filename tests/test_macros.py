@@ -146,6 +146,87 @@ class Exchanged(unittest.TestCase):
             self.assertEqual((caught.exception.row, caught.exception.why), (6, "form"))
 
 
+class SizesOfLetters(unittest.TestCase):
+    """Great letters matter where they are a sign's number once all is exchanged, and nowhere else."""
+
+    def same(self, text, plain):
+        self.assertEqual(assembled(text), assembled(plain))
+        self.assertEqual(places(text), places(plain))
+
+    def test_a_letter_comes_from_a_call(self):
+        macro = ".macro m p\nset r1, '{p}\n.end\n"
+        self.assertEqual(assembled(macro + "m A"), packed(("set", 1, 65)))
+        self.assertEqual(assembled(macro + "m a"), packed(("set", 1, 97)))
+        self.assertEqual(assembled(macro + "m p = Z"), packed(("set", 1, 90)))
+        self.assertEqual(assembled(macro + "M P=Z"), packed(("set", 1, 90)))
+        self.same(macro + "m B+1", "set r1, 'B+1")
+
+    def test_a_letter_comes_from_the_text_that_stands_for_a_parameter(self):
+        self.same(".macro m p=A\n.word '{p}\n.end\nm\nm b\nm B", ".word 'A, 'b, 'B")
+        self.same(".macro m p, q = A\n.word {p}{q}\n.end\nm '\nm ', z", ".word 'A, 'z")
+
+    def test_a_letter_comes_from_the_own_row_of_a_macro(self):
+        self.same(".macro m p\n.word {p}A, {p}b\n.end\nm '", ".word 'A, 'b")
+        self.same(".macro m p='\n.word {p}A, {p}b\n.end\nm", ".word 'A, 'b")
+        # Without a sign ahead these are names.
+        self.same(".let xa, 7\n.macro m p\n.word {p}A, {p}a\n.end\nm x\nm X", ".word 7, 7, 7, 7\n.let xa, 7")
+
+    def test_what_stood_between_goes(self):
+        self.same(".macro m p, q\n.word '{q}A, {p}\n.end\nm '{q}B, ", ".word 'A, 'B")
+
+    def test_a_letter_comes_through_macros_within_one_another(self):
+        text = ".macro a p\n.word '{p}, {p}1\n.end\n"
+        for name, inner in ["ba", "cb", "dc", "ed"]:
+            text += f".macro {name} p\n{inner} {{P}}\n.end\n"
+        self.same(text + "X1: e X\nE p = x", "x1: .word 'X, x1, 'x, x1")
+        self.same(".macro in a, b=Y\n.word '{a}, '{b}\n.end\n.macro out a=W\nIN {A}\nin b={a}, A=V\n.end\nOUT\nout U",
+                  ".word 'W, 'Y, 'V, 'W, 'U, 'Y, 'V, 'U")
+
+    def test_one_text_stands_for_a_sign_and_for_a_name(self):
+        self.same(".macro m p\n{p}: .word '{p}, {p}, {p}+'{p}\n.let {p}1, '{p}\njump {p}\n.word {p}1\n.end\nm A\nm b",
+                  "a: .word 'A, a, a+'A\njump a\n.word 'A\nb: .word 'b, b, b+'b\njump b\n.word 'b")
+
+    def test_names_of_parameters_behind_the_sign(self):
+        self.same(".macro m Pa, pB=C\n.word '{PA}, '{pb}, '{pA}, '{Pb}\n.end\nm a\nm A, c\nm PB=d, pa=D",
+                  ".word 'a, 'C, 'a, 'C, 'A, 'c, 'A, 'c, 'D, 'd, 'D, 'd")
+
+    def test_braces_that_a_text_comes_to(self):
+        self.same(".macro m a, b\n.word '{{A}}, '{{a}}\n.end\nm B, Z\nm b, z", ".word 'Z, 'Z, 'z, 'z")
+        self.same(".macro m a, b\n.word {a}\n.end\nm '{B}, K", ".word 'K")
+        with self.assertRaises(BadRow) as caught:
+            assembled(".macro m a, b\n.word {B}\n.end\nm 5, {A}")
+        self.assertEqual((caught.exception.row, caught.exception.why), (3, "number"))
+
+    def test_all_other_letters_do_not_matter(self):
+        small = ("x: rest\n.macro two p, q=0xab, r=r5\n{p}@: fill {r}, {q} + 'K\njump.near {p}@, zero\n.let l@, {p}@\n"
+                 ".word l@, here\n.end\ny: two a\n.macro one p\ntwo {p}, r={p}7\n.end\ntwo b, 0b11, r1\none r\n"
+                 "two r=r2, p=c\njump aq0, some")
+        great = small.upper()
+        self.assertEqual(great.count("'K"), 1)
+        self.same(great, small)
+        self.assertEqual(places(great)[:3], [("x", 0), ("aq0", 1), ("y", 1)])
+
+    def test_what_is_refused_of_great_letters(self):
+        for text, row, why in [
+            (".MACRO M P, p\n.END", 0, "macro"), (".MACRO ADD\n.END", 0, "macro"), (".MACRO R1\n.END", 0, "macro"),
+            (".MACRO M R1\n.END", 0, "macro"), (".MACRO HERE\n.END", 0, "macro"), (".MACRO M HERE\n.END", 0, "macro"),
+            (".macro m\n.END\n.macro M\n.end", 2, "macro"), (".MACRO M", 0, "macro"),
+            (".macro m p\n.end\nm 1, P=2", 2, "macro"), (".macro m p\n.end\nm P=1, p=2", 2, "macro"),
+            (".macro m p\n.end\nm 'P=2", 2, "macro"), (".macro m 'P\n.end", 0, "macro"),
+            (".macro 'M\n.end", 0, "macro"), ("'A: rest", 0, "form"), (".macro m p\n{p}X:\n.end\nm '", 3, "form"),
+            (".macro m p\n.word '{p}\n.end\nm AB", 3, "number"), (".macro m p\n.word '{p}\n.end\nm 'A", 3, "number"),
+            (".macro m p\n.word '{p}\n.end\nm p=", 3, "number"), (".macro m p\n.word {p}A\n.end\nm p=", 3, "name"),
+            (".macro m p\n.word '{p}\n.end\nm @", 3, "number"), (".macro m p\n{p}REST\n.end\nm '", 3, "form"),
+            (".macro m p\na:\n{p}:\n.end\nm A", 4, "twice"),
+            # 65 times 7 is a number that may be, 97 times 7 is not.
+            (".macro m p\nset r1, '{p}*7\n.end\nm A\nm a", 4, "number"),
+        ]:
+            with self.subTest(text):
+                with self.assertRaises(BadRow) as caught:
+                    assembled(text)
+                self.assertEqual((caught.exception.row, caught.exception.why), (row, why))
+
+
 REFUSED = [
     # A .macro row.
     ("a: .macro m\n.end", 0, "macro"), ("rest\n.macro\n.end", 1, "macro"), (".macro 1a\n.end", 0, "macro"),
